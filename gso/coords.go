@@ -3,6 +3,7 @@ package gso
 import (
 	"trammel/api"
 	"trammel/rat"
+	"trammel/scale"
 	"trammel/zint"
 )
 
@@ -14,11 +15,11 @@ func Coords(b [][]api.Int, t []api.Rat) ([]api.Rat, api.Rat, api.Errno) {
 		return nil, api.Rat{}, e
 	case len(t) != len(b[0]):
 		return nil, api.Rat{}, api.ErrShape
-	case !allMayBe(t):
+	case !scale.MayBe(t):
 		return nil, api.Rat{}, api.ErrRat
 	}
-	m := common(t)
-	l, d := left(g, b, scaled(t, m))
+	row, m := scale.Whole(t)
+	l, d := left(g, b, row)
 	whole := zint.Mul(g.D[len(b)], m)
 	out := make([]api.Rat, len(b))
 	for i, a := range solved(g, l) {
@@ -38,34 +39,4 @@ func solved(g api.Gso, l []api.Int) []api.Int {
 		x[i], _ = zint.Exact(a, g.D[i+1])
 	}
 	return x
-}
-
-// allMayBe tells if every denominator is above 0.
-func allMayBe(t []api.Rat) bool {
-	for _, r := range t {
-		if zint.Sign(r.Den) <= 0 {
-			return false
-		}
-	}
-	return true
-}
-
-// common is the least number above 0 that all denominators divide.
-func common(t []api.Rat) api.Int {
-	m := zint.Of(1)
-	for _, r := range t {
-		more, _ := zint.Exact(r.Den, zint.Gcd(m, r.Den))
-		m = zint.Mul(m, more)
-	}
-	return m
-}
-
-// scaled is t times m, which all denominators divide.
-func scaled(t []api.Rat, m api.Int) []api.Int {
-	out := make([]api.Int, len(t))
-	for i, r := range t {
-		times, _ := zint.Exact(m, r.Den)
-		out[i] = zint.Mul(r.Num, times)
-	}
-	return out
 }
