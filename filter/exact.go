@@ -1,6 +1,7 @@
 package filter
 
 import (
+	"trammel/aim"
 	"trammel/api"
 	"trammel/gso"
 	"trammel/rat"
@@ -12,8 +13,7 @@ func Norm(g api.Gso, t []api.Rat, x []api.Int) (api.Rat, api.Errno) {
 	if e := refused(g, t, x); e != api.OK {
 		return api.Rat{}, e
 	}
-	a := aimOf(g, t)
-	norm := a.norm(a.shifts(x))
+	norm := aim.Of(g, t).At(x).Norm()
 	return rat.Make(norm.Num, norm.Den)
 }
 
@@ -25,8 +25,7 @@ func Centre(g api.Gso, t []api.Rat, x []api.Int) (api.Rat, api.Errno) {
 	if len(x) == len(g.L) {
 		return api.Rat{}, api.ErrArg
 	}
-	a := aimOf(g, t)
-	centre := a.centre(a.shifts(x))
+	centre := aim.Of(g, t).At(x).Centre()
 	return rat.Make(centre.Num, centre.Den)
 }
 
@@ -38,8 +37,7 @@ func Range(g api.Gso, t []api.Rat, x []api.Int, r api.Rat) (api.Int, api.Int, bo
 	if len(x) == len(g.L) {
 		return api.Int{}, api.Int{}, false, api.ErrArg
 	}
-	a := aimOf(g, t)
-	least, most, some := a.within(a.shifts(x), r)
+	least, most, some := aim.Of(g, t).At(x).Within(r)
 	return least, most, some, api.OK
 }
 
