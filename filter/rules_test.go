@@ -3,6 +3,7 @@ package filter_test
 import (
 	"math/rand"
 	"reflect"
+	"runtime/debug"
 	"slices"
 	"testing"
 	"unsafe"
@@ -195,6 +196,8 @@ func spans(l []api.Int) []span {
 
 func TestAnswersAreNew(t *testing.T) {
 	everywhere(func(name string, call func(g given) answers, g given) {
+		// What the first answer has given up must not come back in the second one.
+		defer debug.SetGCPercent(debug.SetGCPercent(-1))
 		fresh := spans(call(g).numbers())
 		others := spans(call(g).numbers())
 		for _, l := range g.lists() {

@@ -3,6 +3,7 @@ package gso_test
 import (
 	"math/rand"
 	"reflect"
+	"runtime/debug"
 	"slices"
 	"testing"
 	"unsafe"
@@ -183,6 +184,8 @@ func (a answers) spans() []span {
 
 func TestAnswersAreNew(t *testing.T) {
 	everywhere(func(name string, call func(g given) answers, g given) {
+		// What the first answer has given up must not come back in the second one.
+		defer debug.SetGCPercent(debug.SetGCPercent(-1))
 		all := call(g).spans()
 		fresh := len(all)
 		all = slices.Concat(all, spans(g.lists()), []span{spanOf(g.b), spanOf(g.g.L), spanOf(g.t)}, call(g).spans())
