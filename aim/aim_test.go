@@ -108,6 +108,38 @@ func TestOneGoesOnFromASpotSeveralTimes(t *testing.T) {
 	}
 }
 
+// TestManyRows: spots of all lengths are kept, and gone on from only when all of them are there.
+func TestManyRows(t *testing.T) {
+	g := api.Gso{D: []api.Int{zint.Of(1)}}
+	for i := range int64(8) {
+		row := []api.Int{}
+		for j := range i {
+			row = append(row, zint.Of(3*i-5*j+1))
+		}
+		g.D, g.L = append(g.D, zint.Of(i+2)), append(g.L, row)
+	}
+	type kept struct {
+		x    []int64
+		spot aim.Spot
+	}
+	a := aim.Of(g, nil)
+	all := []kept{{nil, a.At(nil)}}
+	for range a.Rows() {
+		more := []kept{}
+		for _, k := range all {
+			for n := range int64(2) {
+				more = append(more, kept{append(k.x[:len(k.x):len(k.x)], n), k.spot.Child(zint.Of(n))})
+			}
+		}
+		all = more
+		for _, k := range all {
+			if sure := a.At(vec(k.x...)); text(t, k.spot.Norm()) != text(t, sure.Norm()) {
+				t.Fatalf("%v: it hangs on the way", k.x)
+			}
+		}
+	}
+}
+
 // TestAChildGrowsByHowFarItIsOffTheCentre, squared, times Star.
 func TestAChildGrowsByHowFarItIsOffTheCentre(t *testing.T) {
 	star := []api.Rat{q(7, 1), q(5, 7), q(3, 5)}
