@@ -4,6 +4,7 @@ import (
 	"slices"
 
 	"trammel/api"
+	"trammel/leaf"
 	"trammel/queue"
 )
 
@@ -21,7 +22,7 @@ type machine struct {
 	left   []*worker // those that have not ended, by rising numbers
 	spent  int
 	out    bool
-	best   best
+	best   leaf.Haul
 }
 
 // machineOf keeps the tree as it is: it is not to be used beyond the call that the tree came with.
@@ -30,7 +31,7 @@ func machineOf(t api.Tree, nought bool, c api.Crew) (*machine, api.Errno) {
 	if e != api.OK {
 		return nil, e
 	}
-	m := &machine{tree: t, nought: nought, budget: c.Budget, best: best{bound: t.R}}
+	m := &machine{tree: t, nought: nought, budget: c.Budget, best: leaf.Below(t.R)}
 	m.done.Add(done...)
 	m.jobs.Add(jobs...)
 	for number := range c.Workers {

@@ -2,6 +2,7 @@ package crew
 
 import (
 	"trammel/api"
+	"trammel/leaf"
 	"trammel/walk"
 )
 
@@ -37,7 +38,7 @@ func (w *worker) free() api.CrewEvent {
 
 // walking looks at the job's next node.
 func (w *worker) walking() api.CrewEvent {
-	w.walk.Shrink(w.crew.best.bound)
+	w.walk.Shrink(w.crew.best.Bound())
 	node, some := w.walk.Next()
 	w.node = node
 	switch {
@@ -49,7 +50,7 @@ func (w *worker) walking() api.CrewEvent {
 		return w.event(api.CrewOut)
 	}
 	w.crew.spent++
-	if counts(w.crew.tree, node, w.crew.nought) {
+	if leaf.Counts(w.crew.tree, node, w.crew.nought) {
 		w.next = w.offering
 	}
 	return w.event(api.CrewLook)
@@ -58,7 +59,7 @@ func (w *worker) walking() api.CrewEvent {
 // offering offers the leaf at which the walker stands.
 func (w *worker) offering() api.CrewEvent {
 	part, _ := w.walk.Part()
-	w.crew.best.offer(w.node, part)
+	w.crew.best.Offer(leaf.Found(w.node, part))
 	w.next = w.walking
 	return w.event(api.CrewOffer)
 }
